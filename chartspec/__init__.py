@@ -1,0 +1,1 @@
+"""Exact charts with patches, labels that never overlap, reading back and comparison."""

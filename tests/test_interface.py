@@ -1,0 +1,71 @@
+"""The names and arguments that the interface of DOC.md lists, each in its file."""
+
+import importlib
+import inspect
+import unittest
+
+FUNCTIONS = {
+    "rectangles": {
+        "contains": "(rectangle, x, y)",
+        "overlap": "(first, second)",
+        "inside": "(first, second)",
+        "common": "(first, second)",
+        "hull": "(rectangles)",
+    },
+    "texts": {
+        "glyph_width": "(character)",
+        "text_width": "(text)",
+        "inked": "(text, x, y)",
+    },
+    "shapes": {
+        "around": "(shape, points, text)",
+        "covers": "(shape, points, text, x, y)",
+    },
+    "scenes": {
+        "identity": "(primitive)",
+        "is_keyed": "(scene)",
+        "without_keys": "(scene)",
+        "reach": "(primitive)",
+        "visible_part": "(scene, primitive)",
+        "paint_of": "(primitive, x, y)",
+    },
+    "patches": {
+        "merged_order": "(scene, patch)",
+        "touched": "(patch)",
+        "misfit": "(scene, patch)",
+        "patched": "(scene, patch)",
+    },
+    "damages": {
+        "moved": "(first, second)",
+        "diff": "(first, second)",
+    },
+}
+CLASSES = {
+    "errors": ("ChartError", "PatchDoesNotFit", "PictureTooLarge", "DuplicateName", "UnknownName", "WrongKind",
+               "ChannelNeeded", "ChannelNotAllowed", "ScalesDoNotFit", "TooManyCategories", "TooManyRows",
+               "NotReadable", "NotDecided", "NotComparable", "TooManyCases", "NothingToUndo", "NothingToRedo"),
+}
+
+
+class InterfaceTest(unittest.TestCase):
+    def test_each_function_is_defined_in_its_file_with_its_arguments(self):
+        for file, functions in FUNCTIONS.items():
+            module = importlib.import_module(f"chartspec.{file}")
+            for name, arguments in functions.items():
+                with self.subTest(file=file, name=name):
+                    function = getattr(module, name)
+                    self.assertTrue(inspect.isfunction(function))
+                    self.assertEqual(function.__module__, f"chartspec.{file}")
+                    self.assertEqual(str(inspect.signature(function)), arguments)
+
+    def test_each_class_is_defined_in_its_file(self):
+        for file, classes in CLASSES.items():
+            module = importlib.import_module(f"chartspec.{file}")
+            for name in classes:
+                with self.subTest(file=file, name=name):
+                    self.assertTrue(inspect.isclass(getattr(module, name)))
+                    self.assertEqual(getattr(module, name).__module__, f"chartspec.{file}")
+
+
+if __name__ == "__main__":
+    unittest.main()
