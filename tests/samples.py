@@ -1,6 +1,6 @@
 """Scenes and helpers for the tests."""
 
-from itertools import product
+from itertools import combinations, product
 
 from chartspec.scenes import paint_of
 
@@ -13,6 +13,10 @@ BEFORE = (10, 6, (PAGE, ONE, TWO))
 AFTER = (10, 6, (PAGE, GROWN, THREE))
 
 EMPTY_PATCH = (None, (), (), None, ())
+
+# The problem of point 108.
+TASK = ((0, 0, 30, 20), (), (((0, 0, 10, 7), (0, 10, 10, 7)), ((5, 0, 10, 7), (5, 10, 10, 7)),
+                             ((8, 0, 10, 7), (8, 5, 10, 7))))
 
 
 def block(plot, key, rectangle=(0, 0, 1, 1), *, role="mark 0", fill="#000000", clip=None):
@@ -92,3 +96,50 @@ def some_change(random, scene):
     if random.random() < 0.1:
         width, height = random.choice(((0, 0), (width + 1, height), (width, height + 2), (0, height)))
     return (width, height, tuple(kept))
+
+
+def share_pixels(first, second):
+    """True if two rectangles have a pixel in common, found by their pixels."""
+    return bool(pixels_of(first) & pixels_of(second))
+
+
+def some_problem(random, labels):
+    """A small problem with this many labels, by a seeded generator."""
+    def rectangle():
+        return (random.randrange(-1, 10), random.randrange(-1, 6), random.randrange(5), random.randrange(4))
+
+    pairs = []
+    for _ in range(labels):
+        first = rectangle()
+        pairs.append((first, random.choice((first, rectangle(), rectangle(), rectangle()))))
+    obstacles = tuple(rectangle() for _ in range(random.choice((0, 0, 1, 2))))
+    return ((0, 0, 12, 8), obstacles, tuple(pairs))
+
+
+def free_choice(problem, choice):
+    """True if a choice is free, found by the pixels and the edges of its rectangle."""
+    (left, top, width, height), obstacles, labels = problem
+    x, y, wide, high = place = labels[choice[0]][choice[1]]
+    within = left <= x and top <= y and x + wide <= left + width and y + high <= top + height
+    return within and not any(share_pixels(place, obstacle) for obstacle in obstacles)
+
+
+def is_placement(problem, among, sides):
+    """True if labels can have these sides together."""
+    chosen = [problem[2][label][side] for label, side in zip(among, sides)]
+    return (all(free_choice(problem, choice) for choice in zip(among, sides))
+            and not any(share_pixels(first, second) for first, second in combinations(chosen, 2)))
+
+
+def placements_of(problem, among):
+    """All sides that some labels can have together, in ascending order, found by trying."""
+    return [sides for sides in product((0, 1), repeat=len(among)) if is_placement(problem, among, sides)]
+
+
+def kept_by_trying(problem):
+    """The kept labels of a problem, found by trying."""
+    kept = ()
+    for label in range(len(problem[2])):
+        if placements_of(problem, kept + (label,)):
+            kept += (label,)
+    return kept

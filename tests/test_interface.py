@@ -39,6 +39,53 @@ FUNCTIONS = {
         "moved": "(first, second)",
         "diff": "(first, second)",
     },
+    "algebra": {
+        "inverse": "(scene, patch)",
+        "composed": "(scene, patches)",
+    },
+    "pictures": {
+        "hits": "(scene, x, y)",
+        "hit": "(scene, x, y)",
+        "color_at": "(scene, x, y)",
+    },
+    "painting": {
+        "painted": "(scene, rectangle)",
+        "picture": "(scene)",
+        "needed": "(scene, rectangle)",
+        "repainted": "(colors, scene, rectangles)",
+    },
+    "choices": {
+        "chosen_rectangle": "(problem, choice)",
+        "is_free": "(problem, choice)",
+        "forces": "(problem, choice, other)",
+    },
+    "chains": {
+        "is_chain": "(problem, among, chain, start, goal)",
+        "shortest_chain": "(problem, among, start, goal)",
+        "reason_of": "(problem, among, label)",
+    },
+    "placing": {
+        "together": "(problem, among)",
+        "kept_labels": "(problem)",
+        "place_labels": "(problem)",
+    },
+    "judging": {
+        "flaw": "(problem, placement)",
+    },
+    "fractions": {
+        "lowest": "(numerator, denominator)",
+        "plus": "(a, b)",
+        "minus": "(a, b)",
+        "times": "(a, b)",
+        "over": "(a, b)",
+        "compare": "(a, b)",
+        "floor_of": "(a)",
+        "ceiling_of": "(a)",
+        "nearest_of": "(a)",
+        "as_number": "(a)",
+        "fraction_text": "(a)",
+        "read_fraction": "(text)",
+    },
 }
 CLASSES = {
     "errors": ("ChartError", "PatchDoesNotFit", "PictureTooLarge", "DuplicateName", "UnknownName", "WrongKind",

@@ -28,6 +28,10 @@ METHODS = set(
     "append clear copy count endswith extend find get index insert isalnum isalpha isdigit islower isspace isupper "
     "items join keys ljust lower lstrip partition pop remove replace reverse rfind rjust rpartition rsplit rstrip "
     "setdefault split splitlines startswith strip update upper values zfill bit_length add discard".split())
+# What L23 allows to iterate over these on the spot, beside loops and comprehensions.
+ITERATORS = set("range zip enumerate reversed".split())
+MODIFYING = set("append clear extend insert pop remove reverse setdefault update".split())
+TAKERS = set("list tuple dict sorted sum any all enumerate zip min max".split())
 # Words that L17 bars from a file, comments and docstrings excepted.
 BARRED = set(
     "type typing typing_extensions enum Enum IntEnum StrEnum Flag IntFlag Generic Protocol ABC ABCMeta namedtuple "
@@ -40,6 +44,10 @@ def trees():
 
 def nodes(*kinds):
     return [(path, node) for path, tree in trees() for node in ast.walk(tree) if isinstance(node, kinds)]
+
+
+def called_name(call):
+    return call.func.id if isinstance(call.func, ast.Name) else ""
 
 
 def bound_names(tree):
@@ -135,6 +143,31 @@ class StatementTest(unittest.TestCase):
     def test_no_true_division(self):
         for path, node in nodes(ast.BinOp, ast.AugAssign):
             self.assertNotIsInstance(node.op, (ast.Div, ast.MatMult), (path, node.lineno))
+
+    def test_exponents_are_small_literals(self):
+        for path, node in nodes(ast.BinOp, ast.AugAssign):
+            if isinstance(node.op, ast.Pow):
+                exponent = node.right if isinstance(node, ast.BinOp) else node.value
+                self.assertIsInstance(exponent, ast.Constant, (path, node.lineno))
+                self.assertIn(exponent.value, range(65), (path, node.lineno))
+
+    def test_ranges_and_their_kin_are_iterated_at_once(self):
+        for path, tree in trees():
+            allowed = [node.iter for node in ast.walk(tree) if isinstance(node, (ast.For, ast.comprehension))]
+            allowed += [node.args[0] for node in ast.walk(tree)
+                        if isinstance(node, ast.Call) and called_name(node) in TAKERS and node.args]
+            for node in ast.walk(tree):
+                if isinstance(node, ast.Call) and called_name(node) in ITERATORS:
+                    self.assertIn(node, allowed, (path, node.lineno))
+
+    def test_no_loop_modifies_what_it_goes_over(self):
+        for path, node in nodes(ast.For):
+            if isinstance(node.iter, (ast.Name, ast.Attribute)):
+                for call in ast.walk(node):
+                    if isinstance(call, ast.Call) and isinstance(call.func, ast.Attribute):
+                        if call.func.attr in MODIFYING:
+                            self.assertNotEqual(ast.unparse(call.func.value), ast.unparse(node.iter),
+                                                (path, call.lineno))
 
     def test_is_stands_beside_none_true_or_false(self):
         for path, node in nodes(ast.Compare):
