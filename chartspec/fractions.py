@@ -2,6 +2,8 @@
 
 from math import gcd
 
+ZERO = (0, 1)
+
 
 def lowest(numerator, denominator):
     """The fraction with this value; the denominator is not 0 but may be negative."""
@@ -52,6 +54,11 @@ def ceiling_of(a):
 def nearest_of(a):
     """The integer nearest to the fraction, of two that are equally near the greater one."""
     return (2 * a[0] + a[1]) // (2 * a[1])
+
+
+def multiple_below(step, a):
+    """The greatest multiple of a fraction above 0 that is not above the second fraction."""
+    return times(step, (floor_of(over(a, step)), 1))
 
 
 def as_number(a):
@@ -116,4 +123,9 @@ def read_decimal(unsigned):
     whole, _, digits = unsigned.partition(".")
     if not whole.isdigit() or not (digits == "" or digits.isdigit()):
         return None
-    return lowest(int(whole + digits), int("1" + "0" * len(digits)))
+    return lowest(int(whole + digits), ten_to(len(digits)))
+
+
+def ten_to(many):
+    """The power of ten with this many zeros."""
+    return int("1" + "0" * many)

@@ -19,6 +19,11 @@ TASK = ((0, 0, 30, 20), (), (((0, 0, 10, 7), (0, 10, 10, 7)), ((5, 0, 10, 7), (5
                              ((8, 0, 10, 7), (8, 5, 10, 7))))
 
 
+def pair(value):
+    """A fraction of the program with the value of one of Python's own."""
+    return (value.numerator, value.denominator)
+
+
 def block(plot, key, rectangle=(0, 0, 1, 1), *, role="mark 0", fill="#000000", clip=None):
     """A rectangle as a primitive."""
     return (plot, role, key, "rectangle", rectangle, "", fill, None, clip)

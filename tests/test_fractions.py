@@ -7,16 +7,13 @@ from fractions import Fraction
 from itertools import product
 from random import Random
 
+from samples import pair
+
 from chartspec.fractions import (as_number, ceiling_of, compare, floor_of, fraction_text, lowest, minus, nearest_of,
                                  over, plus, read_fraction, times)
 
 LARGE = 10 ** 60 - 1
 ZERO = (0, 1)
-
-
-def pair(value):
-    """A fraction of the program with the value of one of Python's own."""
-    return (value.numerator, value.denominator)
 
 
 def some_values(many):

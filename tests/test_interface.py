@@ -86,6 +86,44 @@ FUNCTIONS = {
         "fraction_text": "(a)",
         "read_fraction": "(text)",
     },
+    "cells": {
+        "cell_kind": "(cell)",
+        "compare_cells": "(a, b)",
+        "cell_text": "(cell)",
+        "read_cell": "(text, kind)",
+        "key_text": "(cells)",
+    },
+    "tables": {
+        "data_table": "(columns, rows)",
+    },
+    "expressions": {
+        "places": "(expression)",
+        "columns_in": "(expression)",
+        "kind_of": "(expression, columns)",
+        "evaluate": "(expression, columns, cells)",
+    },
+    "orders": {
+        "ordered": "(columns, rows, keys)",
+    },
+    "groups": {
+        "aggregate": "(function, cells)",
+        "grouped": "(table, columns, aggregates)",
+    },
+    "stacks": {
+        "stacked": "(table, column, over, keys, low, high)",
+    },
+    "transforms": {
+        "columns_after": "(columns, transform)",
+        "transformed": "(table, transform)",
+    },
+    "rulers": {
+        "offset": "(domain, length, fraction)",
+        "nearest": "(ruler, fraction)",
+        "band": "(ruler, cell)",
+        "pixel": "(ruler, cell)",
+        "report_at": "(ruler, place)",
+        "range_of": "(ruler, first, last)",
+    },
 }
 CLASSES = {
     "errors": ("ChartError", "PatchDoesNotFit", "PictureTooLarge", "DuplicateName", "UnknownName", "WrongKind",
