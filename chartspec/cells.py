@@ -5,6 +5,8 @@ from chartspec.fractions import as_number, compare, fraction_text, read_fraction
 # The kinds in the order in which their cells come; None stands for missing cells.
 KIND_ORDER = ("boolean", "number", "text", None)
 
+BOOLEANS = {"true": True, "false": False}
+
 MOST_CHARACTERS = 40
 
 
@@ -40,7 +42,7 @@ def cell_text(cell):
 def read_cell(text, kind):
     """The cell of this kind that the text denotes, or None."""
     if kind == "boolean":
-        return {"true": True, "false": False}.get(text)
+        return BOOLEANS.get(text)
     return as_cell(text if kind == "text" else read_fraction(text))
 
 
@@ -54,6 +56,11 @@ def as_cell(found):
     return found
 
 
+def present_cells(cells):
+    """The cells of a tuple that are not missing, a tuple in their order."""
+    return tuple([cell for cell in cells if cell is not None])
+
+
 def key_text(cells):
     """The key text of a tuple of cells."""
     return ",".join([key_part(cell) for cell in cells])
@@ -64,7 +71,4 @@ def key_part(cell):
     if cell is None:
         return "-"
     text = cell_text(cell)
-    if cell_kind(cell) != "text":
-        return text
-    doubled = text.replace("\"", "\"\"")
-    return f"\"{doubled}\""
+    return "\"" + text.replace("\"", "\"\"") + "\"" if cell_kind(cell) == "text" else text

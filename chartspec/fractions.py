@@ -61,6 +61,11 @@ def multiple_below(step, a):
     return times(step, (floor_of(over(a, step)), 1))
 
 
+def multiple_above(step, a):
+    """The least multiple of a fraction above 0 that is not below the second fraction."""
+    return times(step, (ceiling_of(over(a, step)), 1))
+
+
 def as_number(a):
     """The fraction if it is a number, otherwise None."""
     numerator, denominator = a

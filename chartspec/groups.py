@@ -1,6 +1,6 @@
 """Groups of rows with equal cells, and the aggregates of their cells."""
 
-from chartspec.cells import compare_cells
+from chartspec.cells import compare_cells, present_cells
 from chartspec.fractions import ZERO, as_number, over, plus
 from chartspec.orders import ordered
 from chartspec.sorting import arranged
@@ -12,7 +12,7 @@ PICKED = ("least", "greatest")
 
 def aggregate(function, cells):
     """The value of an aggregate for the cells of its column, one for each row."""
-    present = tuple([cell for cell in cells if cell is not None])
+    present = present_cells(cells)
     if function == "count":
         return (len(cells), 1)
     if function == "valid":

@@ -12,7 +12,7 @@ def ordered(columns, rows, keys):
 
 
 def compare_parts(places, first, second):
-    """-1, 0 or 1, if the first cells come before the second ones by pairs (place, descending), are level, or after."""
+    """-1, 0 or 1: how the first cells compare to the second ones by pairs (place, descending)."""
     for place, descending in places:
         a, b = first[place], second[place]
         found = compare_cells(a, b)

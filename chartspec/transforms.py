@@ -14,9 +14,7 @@ NUMERIC = ("sum", "mean", "median")
 
 def columns_after(columns, transform):
     """The columns of the table after the transform. Raises UnknownName, WrongKind, DuplicateName."""
-    for name in mentioned_names(transform):
-        if column_kind(columns, name) is None:
-            raise UnknownName(name)
+    refuse_unknown(columns, mentioned_names(transform))
     if not has_kinds(columns, transform):
         raise WrongKind(transform[0])
     found = group_columns(columns, transform[1]) if transform[0] == "group" else columns
@@ -25,6 +23,13 @@ def columns_after(columns, transform):
             raise DuplicateName(name)
         found = found + ((name, kind),)
     return found
+
+
+def refuse_unknown(columns, names):
+    """Raises UnknownName for the first of the names that no column has."""
+    for name in names:
+        if column_kind(columns, name) is None:
+            raise UnknownName(name)
 
 
 def mentioned_names(transform):

@@ -124,6 +124,37 @@ FUNCTIONS = {
         "report_at": "(ruler, place)",
         "range_of": "(ruler, first, last)",
     },
+    "fitted": {
+        "fitted_domain": "(scale, cells)",
+    },
+    "formats": {
+        "number_label": "(fraction, style)",
+        "read_label": "(text, style)",
+    },
+    "steps": {
+        "round_step": "(fraction)",
+        "step_after": "(step)",
+        "multiples": "(step, low, high)",
+    },
+    "lines": {
+        "extent": "(place, label, *, vertical=False)",
+        "line_count": "(extents, gap)",
+    },
+    "ticks": {
+        "candidate": "(scale, domain, step, length, *, vertical=False)",
+        "axis_of": "(scale, cells, length, *, vertical=False)",
+    },
+    "colors": {
+        "brightness": "(color)",
+        "text_color": "(color)",
+        "palette_colors": "(palette)",
+        "color_of": "(palette, categories, cell)",
+    },
+    "checking": {
+        "check_spec": "(spec)",
+        "last_columns": "(spec, number, layer)",
+        "scale_kind": "(spec, number, channel)",
+    },
 }
 CLASSES = {
     "errors": ("ChartError", "PatchDoesNotFit", "PictureTooLarge", "DuplicateName", "UnknownName", "WrongKind",

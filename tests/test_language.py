@@ -113,6 +113,13 @@ class StatementTest(unittest.TestCase):
                 else:
                     self.assertIn(alias.name, LIBRARY[node.module], path)
 
+    def test_every_import_is_used(self):
+        for path, tree in trees():
+            used = {node.id for node in ast.walk(tree) if isinstance(node, ast.Name)}
+            for node in tree.body:
+                if isinstance(node, ast.ImportFrom):
+                    self.assertLessEqual({alias.name for alias in node.names}, used, path)
+
     def test_no_two_files_import_from_each_other(self):
         sources = {path.stem: [node.module.partition(".")[2] for node in ast.walk(tree)
                                if isinstance(node, ast.ImportFrom)] for path, tree in trees()}
