@@ -2,6 +2,8 @@
 
 BLACK = "#000000"
 WHITE = "#ffffff"
+GRAY = "#888888"
+LIGHT_GRAY = "#dddddd"
 
 HEX_DIGITS = "0123456789abcdef"
 

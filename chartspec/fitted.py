@@ -14,21 +14,26 @@ def is_declared(scale):
     return scale[1][0] in DECLARED
 
 
+def declared_domain(scale):
+    """The declared domain of a scale or a color scale: the pair of its ends, or its listed cells."""
+    domain = scale[1]
+    return domain[1:] if domain[0] == "from" else domain[1]
+
+
 def fitted_domain(scale, cells):
     """The domain of the scale for the cells, before a candidate is chosen: a pair of fractions, or the categories."""
-    form, domain = scale[:2]
-    if form == "band":
+    if scale[0] == "band":
         return fitted_categories(scale, cells)
     if is_declared(scale):
-        return domain[1:]
+        return declared_domain(scale)
     numbers = present_cells(cells)
-    return fitted_ends(numbers + (ZERO,) if domain[0] == "zero" else numbers)
+    return fitted_ends(numbers + (ZERO,) if scale[1][0] == "zero" else numbers)
 
 
 def fitted_categories(scale, cells):
     """The categories of a band scale or a color scale for the cells."""
     if is_declared(scale):
-        return scale[1][1]
+        return declared_domain(scale)
     return arranged(tuple({cell: True for cell in present_cells(cells)}), compare_cells)
 
 

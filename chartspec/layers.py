@@ -1,7 +1,7 @@
 """Layers (table, transforms, mark, channels, paint, label): their marks and the channels of these."""
 
 from chartspec.cells import cell_kind
-from chartspec.tables import column_kind
+from chartspec.tables import column_kind, column_place
 
 # The channels of each mark.
 MARK_CHANNELS = {
@@ -19,6 +19,33 @@ CHANNEL_SCALES = {"x": "x", "x2": "x", "y": "y", "y2": "y", "color": "color"}
 def channel_words(layer):
     """The channels that a layer gives, a tuple in their order."""
     return tuple([channel for channel, _ in layer[3]])
+
+
+def source_of(layer, channel):
+    """The source of a channel, or None if the layer does not have the channel."""
+    return dict(layer[3]).get(channel)
+
+
+def shown_column(layer, channel):
+    """The name of the column that a channel of the layer shows, or None if it shows none."""
+    source = source_of(layer, channel)
+    if source is None or source[0] != "column":
+        return None
+    return source[1]
+
+
+def channel_cell(layer, columns, cells, channel):
+    """The cell of a channel in a row with these cells; missing if the layer does not have the channel."""
+    source = source_of(layer, channel)
+    if source is None:
+        return None
+    word, found = source
+    return cells[column_place(columns, found)] if word == "column" else found
+
+
+def scale_channels(scale):
+    """The channels that the scale "x", "y" or "color" shows, a tuple."""
+    return tuple([channel for channel in CHANNEL_SCALES if CHANNEL_SCALES[channel] == scale])
 
 
 def needed_channels(layer):

@@ -23,13 +23,28 @@ def is_keyed(scene):
 def without_keys(scene):
     """The same scene with the empty string as the key of every primitive."""
     width, height, items = scene
-    return (width, height, tuple([item[:2] + ("",) + item[3:] for item in items]))
+    return (width, height, keyless(items))
+
+
+def keyless(items):
+    """The same primitives with the empty string as the key of each."""
+    return tuple([item[:2] + ("",) + item[3:] for item in items])
+
+
+def surrounding(primitive):
+    """The rectangle around the shape of the primitive, whatever its clip."""
+    _, _, _, shape, points, text, _, _, _ = primitive
+    return around(shape, points, text)
+
+
+def surroundings(items):
+    """The rectangles around the shapes of some primitives, a tuple in their order."""
+    return tuple([surrounding(item) for item in items])
 
 
 def reach(primitive):
     """The rectangle outside of which the primitive paints nothing, or None if that has no pixel."""
-    _, _, _, shape, points, text, _, _, clip = primitive
-    box = around(shape, points, text)
+    box, clip = surrounding(primitive), primitive[8]
     # The common part of a rectangle and itself is None just if the rectangle is empty.
     return common(box, box if clip is None else clip)
 
@@ -43,11 +58,17 @@ def visible_part(scene, primitive):
     return common(part, (0, 0, width, height))
 
 
+def main_color(primitive):
+    """The color in which the primitive paints, or None: the stroke of lines, the fill of all other shapes."""
+    _, _, _, shape, _, _, fill, stroke, _ = primitive
+    return stroke if shape in ("line", "polyline") else fill
+
+
 def paint_of(primitive, x, y):
     """The color in which the primitive paints the pixel (x, y), or None if it does not paint it."""
-    _, _, _, shape, points, text, fill, stroke, clip = primitive
+    _, _, _, shape, points, text, _, _, clip = primitive
     if clip is not None and not contains(clip, x, y):
         return None
     if not covers(shape, points, text, x, y):
         return None
-    return stroke if shape in ("line", "polyline") else fill
+    return main_color(primitive)
