@@ -2,7 +2,12 @@
 
 from itertools import combinations, product
 
+from chartspec.checking import check_spec
+from chartspec.drawing import draw
+from chartspec.errors import ChartError
+from chartspec.layers import MARK_CHANNELS
 from chartspec.scenes import paint_of
+from chartspec.transforms import columns_after
 
 PAGE = (None, "background", "", "rectangle", (0, 0, 10, 6), "", "#ffffff", None, None)
 ONE = (0, "mark 0", "1", "rectangle", (1, 1, 2, 4), "", "#3a6ea8", None, None)
@@ -148,3 +153,190 @@ def kept_by_trying(problem):
         if placements_of(problem, kept + (label,)):
             kept += (label,)
     return kept
+
+
+# The chart of point 2 and its data.
+PLAIN = ("", "", False)
+REGION = ("band", ("fit",), False, False, 5, ("", False, PLAIN))
+TOTAL = ("linear", ("zero",), False, False, 3, ("total", True, PLAIN))
+BAR = ("sales", (), "bar", (("x", ("column", "region")), ("y", ("column", "total"))), "#3a6ea8", None)
+MAIN = ("main", "", (100, 60), REGION, TOTAL, ("plain", ("fit",), None), (BAR,))
+SALES_TABLES = (("sales", (("region", "text"), ("total", "number"))),)
+SALES_SPEC = ("Sales", SALES_TABLES, (MAIN,), ((0,),))
+SALES = ((1, ("north", (1, 1))), (2, ("south", (3, 1))))
+
+# The chart of point 310.
+TO_TEN = ("linear", ("from", (0, 1), (10, 1)), False, False, 5, None)
+LETTERS = ("band", ("of", ("p", "q")), False, False, 5, None)
+DOTS = ("t", (), "point", (("x", ("column", "a")), ("y", ("column", "b"))), "#000000", None)
+SMALL_TABLES = (("t", (("a", "number"), ("b", "text"))),)
+SMALL_SPEC = ("", SMALL_TABLES, (("v", "", (20, 20), TO_TEN, LETTERS, ("plain", ("fit",), None), (DOTS,)),), ((0,),))
+SMALL_DATA = (((1, ((5, 1), "q")), (2, (None, "p"))),)
+
+
+def column(name):
+    return ("column", name)
+
+
+def constant(cell):
+    return ("constant", cell)
+
+
+def linear_scale(*domain, backwards=False, clamped=False, ticks=5, axis=None):
+    return ("linear", domain, backwards, clamped, ticks, axis)
+
+
+def band_scale(*domain, backwards=False, clamped=False, axis=None):
+    return ("band", domain, backwards, clamped, 5, axis)
+
+
+def layer_of(mark, *channels, table="t", transforms=(), paint="#000000", label=None):
+    return (table, transforms, mark, channels, paint, label)
+
+
+def view_of(*layers, name="v", title="", size=(20, 20), x=TO_TEN, y=TO_TEN, color=("plain", ("fit",), None)):
+    return (name, title, size, x, y, color, layers)
+
+
+def chart_of(*views, tables=SMALL_TABLES, title="", rows=None):
+    return (title, tables, views, rows if rows is not None else (tuple(range(len(views))),))
+
+
+def numbered(*rows):
+    """The data of a data table with these rows of cells, numbered from 1 on."""
+    return tuple((number, cells) for number, cells in enumerate(rows, 1))
+
+
+def whole(*numbers):
+    """Fractions that are these integers; None stays as it is."""
+    return tuple(None if number is None else (number, 1) for number in numbers)
+
+
+def by_role(items, *roles):
+    """The primitives with one of these roles, in their order."""
+    return [item for item in items if item[1] in roles]
+
+
+# What random charts are made of.
+CELLS = {
+    "number": ((0, 1), (1, 1), (2, 1), (-3, 1), (1, 2), (7, 3), (10, 1), (25, 2), (1200, 1)),
+    "text": ("", "a", "b", "north", "say \"no\"", "1"),
+    "boolean": (False, True),
+}
+KINDS = ("number", "number", "text", "boolean")
+CHART_TABLES = (("t", (("a", "number"), ("b", "text"), ("c", "boolean"), ("d", "number"))),
+                ("u", (("k", "text"), ("v", "number"))))
+FORMATS = (PLAIN, ("$", "", True), ("", " cm", False))
+PALETTES = ("plain", "safe", "dark")
+
+
+def some_cell(random, kind):
+    return None if random.random() < 0.15 else random.choice(CELLS[kind])
+
+
+def some_data(random, tables, most=6):
+    """Data for data tables, by a seeded generator."""
+    found = []
+    for _, columns in tables:
+        numbers = sorted(random.sample(range(1, 30), random.randrange(most + 1)))
+        found.append(tuple((number, tuple(some_cell(random, kind) for _, kind in columns)) for number in numbers))
+    return tuple(found)
+
+
+def some_domain(random, kind):
+    """A domain of a band scale or a color scale of this kind."""
+    if random.random() < 0.5:
+        return ("fit",)
+    cells = CELLS[kind]
+    return ("of", tuple(random.sample(cells, random.randrange(1, min(4, len(cells)) + 1))))
+
+
+def some_scale(random, kind):
+    """A scale for cells of this kind, by a seeded generator."""
+    backwards, clamped = random.random() < 0.4, random.random() < 0.3
+    axis = None
+    if random.random() < 0.7:
+        axis = (random.choice(("", "", "title")), random.random() < 0.5, random.choice(FORMATS))
+    if kind != "number" or random.random() < 0.2:
+        return ("band", some_domain(random, kind), backwards, clamped, 5, axis)
+    low, high = sorted(random.sample(CELLS["number"], 2), key=lambda cell: cell[0] / cell[1])
+    domain = random.choice((("fit",), ("zero",), ("from", low, high)))
+    return ("linear", domain, backwards, clamped, random.randrange(1, 8), axis)
+
+
+def some_source(random, columns, kind):
+    """A source of this kind, or of any kind if it is None, by a seeded generator."""
+    fitting = [name for name, own in columns if kind in (None, own)]
+    if fitting and random.random() < 0.85:
+        return ("column", random.choice(fitting))
+    return ("constant", random.choice(CELLS[kind or random.choice(KINDS)]))
+
+
+def some_transforms(random):
+    """A few transforms for the first one of CHART_TABLES, by a seeded generator."""
+    number, text = random.choice(CELLS["number"]), random.choice(CELLS["text"])
+    found = (
+        ("filter", ("or", ("<", ("column", "a"), ("cell", number)), ("=", ("column", "b"), ("cell", text)))),
+        ("filter", ("not", ("missing", ("column", "d")))),
+        ("derive", "e", ("*", ("column", "d"), ("cell", (2, 1)))),
+        ("bin", "a", (5, 1), "low", "high"),
+        ("sort", (("d", True), ("b", False))),
+        ("take", random.randrange(6)),
+        ("group", random.choice(((), ("b",), ("c", "b"))), (("n", "count", None), ("s", "sum", "a"),
+                                                            ("l", "least", "b"))),
+        ("stack", "a", random.choice(((), ("c",))), (("d", False),), "low", "high"),
+    )
+    return tuple(random.sample(found, random.choice((0, 0, 0, 1, 1, 2))))
+
+
+def some_layer(random, kinds, number, marks):
+    """A layer for scales of these kinds (x, y, color), the number of layers of its view, by a seeded generator."""
+    table, columns = random.choice(CHART_TABLES)
+    transforms = some_transforms(random) if table == "t" else ()
+    for transform in transforms:
+        columns = columns_after(columns, transform)
+    mark = random.choice(marks)
+    x, y, color = kinds
+    given = {"x": x, "y": y, "color": color, "detail": None, "text": None, "x2": x, "y2": y}
+    channels = []
+    for channel in MARK_CHANNELS[mark]:
+        if channel in ("x", "y", "text") and random.random() < 0.95 or random.random() < 0.4:
+            channels.append((channel, some_source(random, columns, given[channel])))
+    random.shuffle(channels)
+    label = None
+    if mark != "line" and random.random() < 0.4:
+        label = (random.choice(columns)[0], ((random.choice(columns)[0], random.random() < 0.5),),
+                 random.choice(SIDES), random.choice(SIDES), tuple(random.sample(range(number), random.randrange(number + 1))))
+    return (table, transforms, mark, tuple(channels), random.choice(("#3a6ea8", "#222222", "#eedd33")), label)
+
+
+SIDES = ("above", "below", "left", "right", "center")
+ALL_MARKS = ("point", "bar", "line", "rule", "text")
+
+
+def some_view(random, name, marks=ALL_MARKS, layers=None):
+    """A view, by a seeded generator; it may have errors."""
+    kinds = [random.choice(KINDS) for _ in range(3)]
+    x, y = some_scale(random, kinds[0]), some_scale(random, kinds[1])
+    color = (random.choice(PALETTES), some_domain(random, kinds[2]), random.choice((None, "", "colors")))
+    many = random.randrange(4) if layers is None else layers
+    found = tuple(some_layer(random, kinds, many, marks) for _ in range(many))
+    size = (random.choice((4, 9, 20, 57)), random.choice((4, 10, 33)))
+    return (name, random.choice(("", "", "view")), size, x, y, color, found)
+
+
+def some_chart(random, marks=ALL_MARKS, layers=None, views=None):
+    """A specification without errors and data that it draws, by a seeded generator."""
+    while True:
+        many = random.choice((1, 1, 2, 3)) if views is None else views
+        numbers = random.sample(range(many), many)
+        rows = random.choice(((tuple(numbers),), tuple((number,) for number in numbers)))
+        try:
+            found = tuple(some_view(random, f"v{number}", marks, layers) for number in range(many))
+            spec = (random.choice(("", "Chart")), CHART_TABLES, found, rows)
+            check_spec(spec)
+            data = some_data(random, CHART_TABLES)
+            draw(spec, data)
+        except ChartError:
+            continue
+        return spec, data

@@ -155,11 +155,102 @@ FUNCTIONS = {
         "last_columns": "(spec, number, layer)",
         "scale_kind": "(spec, number, channel)",
     },
+    "marks": {
+        "row_color": "(frame, layer, columns, cells)",
+        "row_mark": "(frame, number, layer, columns, row)",
+    },
+    "series": {
+        "series_of": "(layer, columns, row)",
+        "layer_marks": "(frame, number, layer, table)",
+    },
+    "guides": {
+        "shown_cells": "(layers, tables, channels)",
+        "frame_of": "(spec, number, tables)",
+        "guides_of": "(spec, number, tables)",
+    },
+    "tags": {
+        "side_rectangle": "(around, side, width)",
+        "label_problem": "(frame, layers, tables, number)",
+        "labels_of": "(frame, layers, tables, number)",
+        "label_marks": "(frame, layers, tables, number)",
+    },
+    "layout": {
+        "outline_of": "(frame, guides)",
+        "page_of": "(title, rows)",
+    },
+    "drawing": {
+        "layer_tables": "(spec, data, number)",
+        "sketch": "(spec, number, tables)",
+        "draw": "(spec, data)",
+    },
+    "channels": {
+        "shown_channels": "(layer)",
+        "can_read": "(spec, number, channel)",
+        "unread": "(spec)",
+    },
+    "reports": {
+        "report_rows": "(spec, number, layer, frame, table)",
+        "reported": "(spec, data)",
+    },
+    "readings": {
+        "plot_area": "(scene, number)",
+        "read_ruler": "(scene, spec, number, axis)",
+        "read_categories": "(scene, spec, number)",
+        "read_frame": "(scene, spec, number)",
+        "read_layer": "(scene, spec, number, layer)",
+        "read_back": "(scene, spec)",
+    },
+    "rebuilding": {
+        "simplest": "(span)",
+        "rebuilt": "(scene, spec, number, layer)",
+        "row_at": "(scene, spec, x, y)",
+    },
+    "readability": {
+        "single_sketch": "(spec, number, cells)",
+        "drawn_alike": "(spec, number, first, second)",
+        "full_report": "(frame, channel, cell)",
+        "alike": "(spec, number, channel)",
+    },
+    "formulas": {
+        "is_formula": "(expression)",
+        "tests_of": "(formula)",
+    },
+    "limits": {
+        "scale_values": "(ruler)",
+        "limits_of": "(first, second, table, column)",
+        "candidates": "(kind, limits)",
+    },
+    "cases": {
+        "features": "(frame, number, layer, columns, cells)",
+        "test_values": "(first, second, table, column)",
+        "test_rows": "(first, second, table)",
+    },
+    "comparison": {
+        "same": "(first, second, data)",
+        "compared": "(first, second)",
+    },
 }
+GENERATORS = (("cases", "test_rows"),)
+METHODS = {
+    ("sessions", "Session"): {
+        "__init__": "(self, spec, data, *, most=20)",
+        "change": "(self, edits)",
+        "undo": "(self)",
+        "redo": "(self)",
+        "attach": "(self)",
+        "render": "(self, viewer=0)",
+        "preview": "(self, edits, *, viewer=0)",
+        "seen": "(self, viewer)",
+        "__len__": "(self)",
+        "__iter__": "(self)",
+    },
+}
+PROPERTIES = {("sessions", "Session"): ("spec", "data", "scene", "next_numbers", "can_undo", "can_redo")}
 CLASSES = {
     "errors": ("ChartError", "PatchDoesNotFit", "PictureTooLarge", "DuplicateName", "UnknownName", "WrongKind",
                "ChannelNeeded", "ChannelNotAllowed", "ScalesDoNotFit", "TooManyCategories", "TooManyRows",
                "NotReadable", "NotDecided", "NotComparable", "TooManyCases", "NothingToUndo", "NothingToRedo"),
+    "sessions": ("Session",),
 }
 
 
@@ -173,6 +264,22 @@ class InterfaceTest(unittest.TestCase):
                     self.assertTrue(inspect.isfunction(function))
                     self.assertEqual(function.__module__, f"chartspec.{file}")
                     self.assertEqual(str(inspect.signature(function)), arguments)
+
+    def test_generators(self):
+        for file, functions in FUNCTIONS.items():
+            module = importlib.import_module(f"chartspec.{file}")
+            for name in functions:
+                self.assertEqual(inspect.isgeneratorfunction(getattr(module, name)), (file, name) in GENERATORS)
+
+    def test_each_method_is_defined_in_its_class_with_its_arguments(self):
+        for (file, name), methods in METHODS.items():
+            found = vars(getattr(importlib.import_module(f"chartspec.{file}"), name))
+            for method, arguments in methods.items():
+                with self.subTest(method=method):
+                    self.assertTrue(inspect.isfunction(found[method]))
+                    self.assertEqual(str(inspect.signature(found[method])), arguments)
+            for word in PROPERTIES[file, name]:
+                self.assertIsInstance(found[word], property)
 
     def test_each_class_is_defined_in_its_file(self):
         for file, classes in CLASSES.items():
