@@ -1,5 +1,6 @@
 """Scenes and helpers for the tests."""
 
+from fractions import Fraction
 from itertools import combinations, product
 
 from chartspec.checking import check_spec
@@ -228,10 +229,19 @@ CHART_TABLES = (("t", (("a", "number"), ("b", "text"), ("c", "boolean"), ("d", "
                 ("u", (("k", "text"), ("v", "number"))))
 FORMATS = (PLAIN, ("$", "", True), ("", " cm", False))
 PALETTES = ("plain", "safe", "dark")
+SIDES = ("above", "below", "left", "right", "center")
+ALL_MARKS = ("point", "bar", "line", "rule", "text")
 
 
 def some_cell(random, kind):
     return None if random.random() < 0.15 else random.choice(CELLS[kind])
+
+
+def nearby(random, cell):
+    """The cell, or a number that is very near to it, by a seeded generator."""
+    if isinstance(cell, tuple) and random.random() < 0.5:
+        return pair(Fraction(*cell) + Fraction(1, 1000))
+    return cell
 
 
 def some_data(random, tables, most=6):
@@ -305,13 +315,10 @@ def some_layer(random, kinds, number, marks):
     random.shuffle(channels)
     label = None
     if mark != "line" and random.random() < 0.4:
-        label = (random.choice(columns)[0], ((random.choice(columns)[0], random.random() < 0.5),),
-                 random.choice(SIDES), random.choice(SIDES), tuple(random.sample(range(number), random.randrange(number + 1))))
+        keys = ((random.choice(columns)[0], random.random() < 0.5),)
+        avoid = tuple(random.sample(range(number), random.randrange(number + 1)))
+        label = (random.choice(columns)[0], keys, random.choice(SIDES), random.choice(SIDES), avoid)
     return (table, transforms, mark, tuple(channels), random.choice(("#3a6ea8", "#222222", "#eedd33")), label)
-
-
-SIDES = ("above", "below", "left", "right", "center")
-ALL_MARKS = ("point", "bar", "line", "rule", "text")
 
 
 def some_view(random, name, marks=ALL_MARKS, layers=None):

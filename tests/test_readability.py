@@ -4,7 +4,7 @@ import copy
 import unittest
 from random import Random
 
-from samples import (DOTS, LETTERS, PLAIN, SMALL_SPEC, band_scale, chart_of, column, constant, layer_of, linear_scale,
+from samples import (DOTS, LETTERS, PLAIN, SMALL_SPEC, band_scale, chart_of, column, constant, layer_of, linear_scale, nearby,
                      some_cell, some_chart, view_of, whole)
 
 from chartspec.channels import can_read, shown_channels
@@ -283,13 +283,6 @@ class DecidedTest(unittest.TestCase):
                 changed += reports[drawn][1] != table
             found += 1
         self.assertGreater(changed, 100)
-
-
-def nearby(random, cell):
-    """The cell, or a number that is very near to it."""
-    if isinstance(cell, tuple) and random.random() < 0.5:
-        return (cell[0] * 1000 + 1, cell[1] * 1000)
-    return cell
 
 
 if __name__ == "__main__":
