@@ -127,10 +127,10 @@ def y_axis_guides(view, frame, ticks):
 
 
 def label_ends(ticks):
-    """The right ends of the labels of the y axis in each line, and one more, a list."""
+    """The right ends of the labels of the y axis in each line, a list."""
     ends = [-6]
-    for line in range(1 + max([tick[3] for tick in ticks], default=0)):
-        widest = max([text_width(label) for _, _, label, found in ticks if found == line], default=0)
+    for line in range(max([tick[3] for tick in ticks], default=0)):
+        widest = max([text_width(label) for _, _, label, found in ticks if found == line])
         ends.append(ends[-1] - widest - 6)
     return ends
 

@@ -77,7 +77,8 @@ def cells_for(spec, number, channel, other, kind):
     scale = None if word is None else scale_of(spec[2][number], word)
     declared = scale is not None and is_declared(scale)
     if other == channel or word is not None and word == CHANNEL_SCALES.get(channel):
-        return pair_below(declared_domain(scale)[0]) if declared and scale[0] == "linear" else PAIRS[kind]
+        # Of the scales with a declared domain only linear ones cannot be read.
+        return pair_below(declared_domain(scale)[0]) if declared else PAIRS[kind]
     cell = declared_domain(scale)[0] if declared else PAIRS[kind][0]
     return (cell, cell)
 

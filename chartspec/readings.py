@@ -113,7 +113,7 @@ def mark_pixels(view, frame, layer, item, area):
     if mark == "bar":
         return [bar_pixels(view, frame, layer, points, area)]
     if mark == "rule":
-        return [rule_pixels(layer, points, area)]
+        return [rule_pixels(points, area)]
     if mark == "line":
         return [point_pixels(points[at:at + 2], area) for at in range(0, len(points), 2)]
     x, y = points[:2]
@@ -128,11 +128,9 @@ def point_pixels(point, area):
     return {"x": x - left, "y": height - 1 - (y - top)}
 
 
-def rule_pixels(layer, points, area):
-    """The pixels of the channels of a rule, a dict."""
+def rule_pixels(points, area):
+    """The pixels of the channels of a rule, a dict; those that the layer does not have play no part."""
     first, second = point_pixels(points[:2], area), point_pixels(points[2:], area)
-    if source_of(layer, "x") is None or source_of(layer, "y") is None:
-        return first
     return {"x": first["x"], "y": first["y"], "x2": second["x"], "y2": second["y"]}
 
 

@@ -18,7 +18,7 @@ def simplest(span):
     low, high, closed = span
     if compare(low, ZERO) >= 0:
         return simplest_between(low, high, True, closed)
-    if compare(high, ZERO) > 0 or closed and high == ZERO:
+    if compare(high, ZERO) > 0:
         return ZERO
     # Below 0 the fraction nearest to 0 is the greatest one, so the span is looked at from the other side.
     return minus(ZERO, simplest_between(minus(ZERO, high), minus(ZERO, low), closed, True))
@@ -31,9 +31,9 @@ def simplest_between(low, high, low_in, high_in):
     """
     wholes = []
     whole = first_whole(low, low_in)
-    # Fractions without an integer among them share their integer part, and 1 over the rest of the simplest one is the
-    # simplest fraction between 1 over the rests of the ends, where an end without a rest becomes None, no end.
-    while high is not None and not (compare(whole, high) < 0 or high_in and whole == high):
+    # Without an integer below the high end all fractions share their integer part, and 1 over the rest of the simplest
+    # one is the simplest fraction between 1 over the rests of the ends; an end without a rest becomes None, no end.
+    while high is not None and compare(whole, high) >= 0:
         part = (floor_of(low), 1)
         wholes.append(part)
         low, high = over(ONE, minus(high, part)), (None if low == part else over(ONE, minus(low, part)))

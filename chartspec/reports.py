@@ -5,8 +5,9 @@ from chartspec.drawing import layer_tables
 from chartspec.frames import axis_ruler
 from chartspec.guides import frame_of
 from chartspec.layers import channel_cell
+from chartspec.marks import row_mark
 from chartspec.rulers import pixel, report_at
-from chartspec.series import drawn_rows, drawn_series
+from chartspec.series import drawn_series
 
 
 def report_rows(spec, number, layer, frame, table):
@@ -14,10 +15,11 @@ def report_rows(spec, number, layer, frame, table):
     found = spec[2][number][6][layer]
     channels = [(channel, can_read(spec, number, channel)) for channel in shown_channels(found)]
     columns = table[0]
-    if found[2] != "line":
-        return tuple([report_row(frame, found, columns, row, channels) for row in drawn_rows(frame, found, table)])
-    return tuple([report_row(frame, found, columns, row, channels) + (at,)
-                  for at, rows in enumerate(drawn_series(frame, found, table)) for row in rows])
+    if found[2] == "line":
+        return tuple([report_row(frame, found, columns, row, channels) + (at,)
+                      for at, rows in enumerate(drawn_series(frame, found, table)) for row in rows])
+    return tuple([report_row(frame, found, columns, row, channels) for row in table[1]
+                  if row_mark(frame, layer, found, columns, row) is not None])
 
 
 def reported(spec, data):

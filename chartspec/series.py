@@ -29,15 +29,6 @@ def drawn_series(frame, layer, table):
     return list(found.values())
 
 
-def drawn_rows(frame, layer, table):
-    """The drawn rows of a layer, a tuple in the order of its primitives."""
-    if layer[2] == "line":
-        return tuple([row for rows in drawn_series(frame, layer, table) for row in rows])
-    columns, rows = table
-    # Whether a row is drawn does not depend on the number of the layer.
-    return tuple([row for row in rows if row_mark(frame, 0, layer, columns, row) is not None])
-
-
 def has_point(frame, layer, columns, cells):
     """True if a row with these cells has a point of a line, otherwise False."""
     color = row_color(frame, layer, columns, cells)

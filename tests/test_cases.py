@@ -188,6 +188,28 @@ class ValueTest(unittest.TestCase):
         alone, both = spec_of(layer_of("rule", ("x", N))), spec_of(layer_of("rule", ("x", N), ("y", constant((0, 1)))))
         self.assertEqual(values(alone, both), APART)
 
+    def test_each_end_of_a_rule(self):
+        for channels in ((("x", N), Y, ("x2", constant((3, 1)))), (X, Y, ("x2", N)),
+                         (X, ("y", N), ("y2", constant((3, 1)))), (X, Y, ("y2", N))):
+            spec = spec_of(layer_of("rule", *channels))
+            self.assertEqual(values(spec, spec), APART)
+        first, second = spec_of(layer_of("rule", X, ("y", N))), spec_of(layer_of("rule", X, ("y", N), ("y2", constant((3, 1)))))
+        self.assertEqual(values(first, second), (None, (-2, 1), (0, 1), (5, 2), (19, 6), (4, 1), (6, 1)))
+
+    def test_the_features_of_points_and_bars(self):
+        for mark, channels, view in (("point", (X, Y), {}), ("bar", (("x", constant("k")), Y), {"x": band_scale("of", ("k",))})):
+            colored = layer_of(mark, *channels, ("color", S))
+            first, second = (spec_of(colored, color=("plain", ("of", cells), None), **view) for cells in (("a", "b"), ("b", "a")))
+            self.assertEqual(values(first, first, 2), (None, "", "a", "b", "b  "))
+            third = spec_of(colored, color=("plain", ("of", ("a", "c")), None), **view)
+            self.assertEqual(values(first, third, 2), (None, "", "a", "b", "c", "c  "))
+            self.assertEqual(values(first, second, 2), (None, "", "a", "b", "b  "))
+        for mark, channels, view in (("point", (("x", N), Y), {}), ("point", (X, ("y", N)), {}),
+                                     ("bar", (("x", constant("k")), ("y", N)), {"x": band_scale("of", ("k",))}),
+                                     ("bar", (("x", N), ("y", constant("k"))), {"y": band_scale("of", ("k",))})):
+            spec = spec_of(layer_of(mark, *channels), **view)
+            self.assertEqual(values(spec, spec), APART)
+
     def test_layers_with_other_data_tables_are_not_compared(self):
         first = spec_of(layer_of("rule", ("x", S)), x=band_scale("of", ("a", "b")))
         second = spec_of(layer_of("rule", ("x", column("k")), table="u"), x=band_scale("of", ("b", "a")))

@@ -4,7 +4,7 @@ import copy
 import unittest
 from random import Random
 
-from samples import (BAR, CHART_TABLES, MAIN, PLAIN, SALES, SALES_SPEC, SALES_TABLES, band_scale, by_role, chart_of,
+from samples import (BAR, CHART_TABLES, MAIN, PLAIN, SALES, SALES_SPEC, band_scale, by_role, chart_of,
                      column, constant, layer_of, linear_scale, numbered, some_chart, view_of)
 
 from chartspec.drawing import draw, layer_tables, sketch

@@ -229,6 +229,10 @@ class AxisTest(unittest.TestCase):
     def test_hidden_axes(self):
         self.assertEqual(guides(POINT), ((), ()))
 
+    def test_an_x_axis_without_a_title(self):
+        _, after = guides(POINT, x=TO_TEN_SHOWN)
+        self.assertEqual([item[1] for item in after], ["x axis"] + ["x tick"] * 2 + ["x tick label"] * 2)
+
     def test_the_x_axis_comes_before_the_y_axis(self):
         _, after = guides(POINT, x=TO_TEN_SHOWN, y=TO_TEN_SHOWN)
         roles = [item[1] for item in after]

@@ -11,7 +11,7 @@ from chartspec.limits import candidates, limits_of, scale_values
 
 COLUMNS = (("n", "number"), ("m", "number"), ("s", "text"), ("p", "boolean"))
 TABLES = (("t", COLUMNS), ("u", (("n", "number"), ("k", "text"))))
-N, M, S, P = (column(name) for name in "nmsp")
+N, S, P = (column(name) for name in "nsp")
 X, Y = ("x", constant((1, 1))), ("y", constant((1, 1)))
 CHARACTERS = "".join(chr(code) for code in range(32, 127) if chr(code) != "%")
 

@@ -133,6 +133,7 @@ class TextTest(unittest.TestCase):
     def test_a_text(self):
         self.assertEqual(mark_of("text", row_of(3, 0, "two words"), ("x", N), ("y", M), ("text", S)),
                          ("text middle", (6, 17), "two words", PAINT, None))
+        self.assertEqual(mark_of("text", row_of(3, 4, "a"), ("x", N), ("y", M), ("text", S))[1], (6, 9))
 
     def test_texts_of_other_cells(self):
         for source, text in ((N, "0.5"), (P, "false"), (M, "-1/3"), (constant(True), "true"), (constant(""), "")):

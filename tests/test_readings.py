@@ -79,6 +79,13 @@ class PlotAreaTest(unittest.TestCase):
         self.assertEqual(plot_area(scene, 0), (10, 10, 5, 5))
         self.assertEqual(read_back(scene, spec), reported(spec, rows_of((1, 1, "u", None))))
 
+    def test_the_first_mark_can_be_that_of_the_last_layer(self):
+        spec = spec_of(POINT, POINT, POINT, layer_of("rule", ("x", N)))
+        scene = scene_of(spec, (1, None, "u", None))
+        self.assertEqual([item[1] for item in scene[2]], ["background", "mark 3"])
+        self.assertEqual(plot_area(scene, 0), (10, 10, 5, 5))
+        self.assertEqual(read_back(scene, spec), reported(spec, rows_of((1, None, "u", None))))
+
     def test_the_first_mark_can_be_that_of_another_layer(self):
         spec = spec_of(POINT, layer_of("rule", ("x", N)))
         scene = scene_of(spec, (1, None, "u", None))

@@ -294,6 +294,19 @@ class RowAtTest(unittest.TestCase):
         # Grid lines lie below the marks.
         self.assertEqual(row_at(scene, spec, left + 20, top + 20)[:3], (0, 0, 1))
 
+    def test_the_view_of_the_mark(self):
+        view = {"size": (40, 40), "x": SHORT, "y": SHORT}
+        spec = chart_of(view_of(self.point, name="a", **view), view_of(self.point, name="b", **view), tables=TABLES)
+        scene = draw(spec, rows_of((0, 0, "a"), (2, 2, "b")))
+        self.assertEqual([row_at(scene, spec, plot_area(scene, number)[0] + 20, 30)[:3] for number in (0, 1)],
+                         [(0, 0, 1), (1, 0, 1)])
+
+    def test_a_scene_without_its_background(self):
+        spec = spec_of(self.point)
+        width, height, items = draw(spec, rows_of((0, 0, "a")))
+        self.assertEqual(row_at((width, height, items[1:]), spec, 10, 50)[:3], (0, 0, 0))
+        self.assertIsNone(row_at((width, height, items[1:]), spec, 30, 30))
+
     def test_a_line(self):
         line = layer_of("line", ("x", N), ("y", M))
         spec = spec_of(self.point, line)

@@ -480,6 +480,8 @@ class ViewerTest(SessionTest):
         self.assertEqual(session.seen(3), EMPTY)
         session.redo()
         self.assertEqual([session.seen(viewer) for viewer in range(4)], [EMPTY, session.scene, first, EMPTY])
+        session.render()
+        self.assertEqual([session.seen(viewer) for viewer in range(4)], [session.scene, session.scene, first, EMPTY])
 
     def test_many_viewers(self):
         session = self.start()
