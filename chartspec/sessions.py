@@ -9,28 +9,28 @@ from chartspec.errors import NothingToRedo, NothingToUndo
 EMPTY_SCENE = (0, 0, ())
 
 
-def checked_scene(state):
-    """The scene of a state (spec, data, numbers). Raises the errors of the specification, then TooManyCategories."""
-    spec, data, _ = state
+def checked_scene(spec, data):
+    """The scene of a specification and data. Raises the errors of the specification, then TooManyCategories."""
     check_spec(spec)
     return draw(spec, data)
 
 
 def state_after(state, edits):
-    """The state after some edits, and its scene. Raises the errors of the edits, then those of the scene."""
+    """The state (spec, data, numbers) after some edits, and its scene. Raises their errors, then those of the scene."""
     for edit in edits:
         state = edited(state, edit)
-    return (state, checked_scene(state))
+    return (state, checked_scene(state[0], state[1]))
 
 
 class Session:
     """A specification with its data, their changes, and viewers of their scene."""
 
     def __init__(self, spec, data, *, most=20):
-        state = (spec, data, first_numbers(data))
+        # Only a specification without errors tells that the data fit it, so it is checked before they are looked at.
+        scene = checked_scene(spec, data)
         self._most = most
         # What the session is now: its state and the scene of this state.
-        self._now = (state, checked_scene(state))
+        self._now = ((spec, data, first_numbers(data)), scene)
         # The changes that can be undone, the oldest first, and what the session was before each of them.
         self._changes = []
         self._before = []

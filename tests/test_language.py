@@ -167,6 +167,21 @@ class StatementTest(unittest.TestCase):
                 if isinstance(node, ast.Call) and called_name(node) in ITERATORS:
                     self.assertIn(node, allowed, (path, node.lineno))
 
+    def test_generators_are_iterated_at_once(self):
+        yielding = {node.name for _, node in nodes(ast.FunctionDef)
+                    if [part for part in ast.walk(node) if isinstance(part, (ast.Yield, ast.YieldFrom))]}
+        self.assertTrue(yielding)
+        for path, tree in trees():
+            allowed = [node.iter for node in ast.walk(tree) if isinstance(node, (ast.For, ast.comprehension))]
+            allowed += [node.value for node in ast.walk(tree) if isinstance(node, ast.YieldFrom)]
+            allowed += [node.args[0] for node in ast.walk(tree)
+                        if isinstance(node, ast.Call) and called_name(node) in TAKERS and node.args]
+            for node in ast.walk(tree):
+                if isinstance(node, ast.Call) and called_name(node) in yielding:
+                    self.assertIn(node, allowed, (path, node.lineno))
+                    for part in node.args:
+                        self.assertIsInstance(part, (ast.Name, ast.Attribute, ast.Constant), (path, node.lineno))
+
     def test_no_loop_modifies_what_it_goes_over(self):
         for path, node in nodes(ast.For):
             if isinstance(node.iter, (ast.Name, ast.Attribute)):

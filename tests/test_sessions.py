@@ -86,9 +86,11 @@ class StartTest(SessionTest):
                 (chart_of(view_of(layer_of("point", ("x", N))), tables=TABLES), ChannelNeeded, "y"),
                 (chart_of(view_of(layer_of("bar", ("x", N), ("y", M))), tables=TABLES), ScalesDoNotFit, "v"),
                 (chart_of(view_of(layer_of("rule", ("x", column("z")))), tables=TABLES), UnknownName, "z")):
-            with self.assertRaises(error) as caught:
-                Session(spec, DATA)
-            self.assertEqual(caught.exception.name, value)
+            # If the specification has errors, the data need not fit it.
+            for data in (DATA, (), (((1, (None,)),),)):
+                with self.assertRaises(error) as caught:
+                    Session(spec, data)
+                self.assertEqual(caught.exception.name, value)
 
     def test_too_many_categories(self):
         data = (numbered(*[row(1, number, letter) for number, letter in enumerate("abcde")]), ())
