@@ -41,7 +41,8 @@ def chains_from(forced, starts):
     while level:
         # A level is in the order of its chains, so the first chain to a choice that is met is the first of several.
         following = []
-        for choice in level:
+        # A copy, as `following` becomes the next level: what the loop appends to is never what it goes over.
+        for choice in list(level):
             for other in forced[choice]:
                 if other not in chains:
                     chains[other] = chains[choice] + (other,)

@@ -74,6 +74,72 @@ def module_names(tree):
             yield from [target.id for target in node.targets]
 
 
+def given(value):
+    """The texts of the names, attributes and items that an expression may be, a choice between several included."""
+    if isinstance(value, ast.IfExp):
+        return given(value.body) + given(value.orelse)
+    if isinstance(value, ast.BoolOp):
+        return [text for part in value.values for text in given(part)]
+    return [ast.unparse(value)] if isinstance(value, (ast.Name, ast.Attribute, ast.Subscript)) else []
+
+
+def assigned(target, value):
+    """The pairs of texts of a target and of what an assignment gives to it."""
+    if isinstance(target, ast.Tuple) and isinstance(value, ast.Tuple):
+        return [pair for parts in zip(target.elts, value.elts) for pair in assigned(*parts)]
+    return [(ast.unparse(target), text) for text in given(value)]
+
+
+def names_of_same(function):
+    """The sets of the texts that the assignments of a function may make names of the same thing."""
+    groups = []
+    pairs = [pair for node in ast.walk(function) if isinstance(node, ast.Assign) for target in node.targets
+             for pair in assigned(target, node.value)]
+    for pair in pairs:
+        joined = [group for group in groups if group & set(pair)]
+        groups = [group for group in groups if group not in joined] + [set(pair).union(*joined)]
+    return groups
+
+
+def walked(value):
+    """The texts of what a loop over an expression goes over, if it goes over no copy."""
+    if isinstance(value, ast.Call):
+        if called_name(value) in ITERATORS:
+            return [text for part in value.args for text in walked(part)]
+        view = isinstance(value.func, ast.Attribute) and value.func.attr in ("items", "keys", "values")
+        return walked(value.func.value) if view else []
+    return given(value)
+
+
+def changed(part):
+    """The texts of what is modified in a part of a file, by a method, a heap, an item or an augmented assignment."""
+    for node in ast.walk(part):
+        if isinstance(node, ast.Call) and isinstance(node.func, ast.Attribute) and node.func.attr in MODIFYING:
+            yield ast.unparse(node.func.value)
+        elif isinstance(node, ast.Call) and called_name(node) in LIBRARY["heapq"]:
+            yield ast.unparse(node.args[0])
+        elif isinstance(node, ast.Subscript) and not isinstance(node.ctx, ast.Load):
+            yield ast.unparse(node.value)
+        elif isinstance(node, ast.AugAssign):
+            yield ast.unparse(node.target)
+
+
+def changed_while_walked(function):
+    """The lines and texts of what loops and comprehensions of a function change while they go over it by any name."""
+    groups = names_of_same(function)
+    heads = [(node, [node.iter]) for node in ast.walk(function) if isinstance(node, ast.For)]
+    heads += [(node, [part.iter for part in node.generators]) for node in ast.walk(function)
+              if isinstance(node, (ast.ListComp, ast.SetComp, ast.DictComp, ast.GeneratorExp))]
+    return [(node.lineno, text) for node, values in heads for text in changed(node) for value in values
+            for name in walked(value) if name == text or [group for group in groups if {name, text} <= group]]
+
+
+def some_loop(head, body):
+    """A function in which xs, ys and zs are names of one list, and vs is a name of us or box.rows."""
+    return ast.parse("def f(xs, us, box):\n    ys = xs\n    vs, zs = us or box.rows, ys\n    ts = list(xs)\n"
+                     f"    for x in {head}:\n        {body}\n").body[0]
+
+
 class FileTest(unittest.TestCase):
     def test_the_package_holds_nothing_but_its_files(self):
         self.assertIn(PACKAGE / "__init__.py", FILES)
@@ -183,13 +249,20 @@ class StatementTest(unittest.TestCase):
                         self.assertIsInstance(part, (ast.Name, ast.Attribute, ast.Constant), (path, node.lineno))
 
     def test_no_loop_modifies_what_it_goes_over(self):
-        for path, node in nodes(ast.For):
-            if isinstance(node.iter, (ast.Name, ast.Attribute)):
-                for call in ast.walk(node):
-                    if isinstance(call, ast.Call) and isinstance(call.func, ast.Attribute):
-                        if call.func.attr in MODIFYING:
-                            self.assertNotEqual(ast.unparse(call.func.value), ast.unparse(node.iter),
-                                                (path, call.lineno))
+        for path, node in nodes(ast.FunctionDef):
+            self.assertEqual(changed_while_walked(node), [], (path, node.name))
+
+    def test_what_a_loop_goes_over_is_known_by_all_its_names(self):
+        for head, body in (("xs", "xs.append(x)"), ("xs", "ys.append(x)"), ("ys", "xs.pop()"), ("xs", "zs[0] = x"),
+                           ("enumerate(xs)", "ys.append(x)"), ("zip(zs, us)", "del ys[0]"), ("us", "us += [x]"),
+                           ("us.items()", "us.setdefault(x, 1)"), ("xs if x else us", "vs.clear()"),
+                           ("box.rows", "vs.append(x)"), ("xs", "heappush(ys, x)"), ("xs", "xs.pop().append(x)")):
+            found = changed_while_walked(some_loop(head, body))
+            self.assertEqual(len(found), 1, (head, body))
+        for head, body in (("list(xs)", "ys.append(x)"), ("xs", "us.append(x)"), ("xs", "xs = [x]"),
+                           ("xs", "ts[0] = x"), ("xs + ys", "ys.append(x)"), ("sorted(us)", "us.pop(x)"),
+                           ("range(len(xs))", "xs.pop()")):
+            self.assertEqual(changed_while_walked(some_loop(head, body)), [], (head, body))
 
     def test_is_stands_beside_none_true_or_false(self):
         for path, node in nodes(ast.Compare):
